@@ -1,0 +1,1 @@
+"""Chords read, moved and gripped."""

@@ -1,0 +1,105 @@
+"""The program's calls: each takes whole numbers and lists of them, and answers a list of whole numbers."""
+
+MOST_BYTES = 400
+
+# The refusals' numbers.
+NOT_AS_TOLD = -22
+NO_SONG = -71
+
+BLANK = 32
+SLASH = 47
+SHARP = 35
+FLAT = 98
+
+# A name's place in its table is its number; alterations count from the lowest on.
+LETTERS = ("C", "D", "E", "F", "G", "A", "B")
+ALTERATIONS = ("bb", "b", "", "#", "##")
+LOWEST_ALTERATION = -2
+KINDS = (
+    "", "m", "dim", "aug", "sus2", "sus4", "5", "6", "m6",
+    "7", "maj7", "m7", "m7b5", "dim7", "add9", "9", "m9", "7sus4",
+)
+
+# No note has this letter, so it can't be taken for a bass that is the root.
+NO_BASS = (7, 0)
+
+
+def read(t):
+    """How many chords the song t has, and five numbers for each; or a refusal."""
+    if len(t) > MOST_BYTES:
+        return [NOT_AS_TOLD]
+    chords = read_song(t)
+    if chords is None:
+        return [NO_SONG]
+    answer = [len(chords)]
+    for chord in chords:
+        answer.extend(chord)
+    return answer
+
+
+def read_song(t):
+    """The song's chords, five numbers each, or None if t is no song."""
+    chords = []
+    # Splitting no bytes would give one empty chord, but they are a song of none.
+    if len(t) == 0:
+        return chords
+    for part in split_at(BLANK, t):
+        chord = read_chord(part)
+        if chord is None:
+            return None
+        chords.append(chord)
+    return chords
+
+
+def read_chord(part):
+    """Root's letter and alteration, kind, bass's letter and alteration, or None if part is no chord."""
+    sides = split_at(SLASH, part)
+    if len(sides) > 2:
+        return None
+    end = note_end(sides[0])
+    root = read_note(sides[0][:end])
+    kind = place_of(sides[0][end:], KINDS)
+    bass = NO_BASS if len(sides) == 1 else read_note(sides[1])
+    if root is None or kind is None or bass is None or bass == root:
+        return None
+    return [root[0], root[1], kind, bass[0], bass[1]]
+
+
+def note_end(part):
+    """Where the note at the part's beginning ends."""
+    # No kind's name begins with # or b, so all of them behind the letter are the note's.
+    end = 1
+    while end < len(part) and part[end] in (SHARP, FLAT):
+        end += 1
+    return end
+
+
+def read_note(part):
+    """The note's letter and alteration, or None if part is no note."""
+    letter = place_of(part[:1], LETTERS)
+    alteration = place_of(part[1:], ALTERATIONS)
+    if letter is None or alteration is None:
+        return None
+    return (letter, alteration + LOWEST_ALTERATION)
+
+
+def place_of(part, names):
+    """The place among the names of the one that part's bytes spell, or None."""
+    for place, name in enumerate(names):
+        if [ord(sign) for sign in name] == part:
+            return place
+    return None
+
+
+def split_at(mark, t):
+    """The parts of t between the bytes that are the mark: one more than there are marks."""
+    parts = []
+    part = []
+    for byte in t:
+        if byte == mark:
+            parts.append(part)
+            part = []
+        else:
+            part.append(byte)
+    parts.append(part)
+    return parts
