@@ -20,6 +20,15 @@ KINDS = (
     "7", "maj7", "m7", "m7b5", "dim7", "add9", "9", "m9", "7sus4",
 )
 
+ALL_TONES = 12
+LETTER_TONES = (0, 2, 4, 5, 7, 9, 11)
+# How far each kind's tones lie above the root, in the order of the kinds' names.
+KIND_TONES = (
+    (0, 4, 7), (0, 3, 7), (0, 3, 6), (0, 4, 8), (0, 2, 7), (0, 5, 7), (0, 7), (0, 4, 7, 9), (0, 3, 7, 9),
+    (0, 4, 7, 10), (0, 4, 7, 11), (0, 3, 7, 10), (0, 3, 6, 10), (0, 3, 6, 9), (0, 2, 4, 7), (0, 2, 4, 7, 10),
+    (0, 2, 3, 7, 10), (0, 5, 7, 10),
+)
+
 # No note has this letter, so it can't be taken for a bass that is the root.
 NO_BASS = (7, 0)
 
@@ -35,6 +44,18 @@ def read(t):
     for chord in chords:
         answer.extend(chord)
     return answer
+
+
+def tones(t):
+    """How many tones the chord t has, and these, rising; or a refusal."""
+    if len(t) > MOST_BYTES:
+        return [NOT_AS_TOLD]
+    # No chord has a blank in it, so whatever reads as a chord is just one.
+    chord = read_chord(t)
+    if chord is None:
+        return [NO_SONG]
+    had = chord_tones(chord)
+    return [len(had)] + had
 
 
 def read_song(t):
@@ -103,3 +124,24 @@ def split_at(mark, t):
             part.append(byte)
     parts.append(part)
     return parts
+
+
+def chord_tones(chord):
+    """The tones that the chord has, its bass's among them, rising."""
+    root = note_tone(chord[:2])
+    had = [(root + step) % ALL_TONES for step in KIND_TONES[chord[2]]]
+    had.append(bass_tone(chord))
+    # The bass's tone may be there already, and is then not to be told twice.
+    return [tone for tone in range(ALL_TONES) if tone in had]
+
+
+def bass_tone(chord):
+    """The tone of the chord's bass, which is the root if none is told."""
+    if chord[3] == NO_BASS[0]:
+        return note_tone(chord[:2])
+    return note_tone(chord[3:])
+
+
+def note_tone(note):
+    """The tone of the note, told as letter and alteration."""
+    return (LETTER_TONES[note[0]] + note[1]) % ALL_TONES

@@ -1,55 +1,23 @@
 """Point 1: read."""
 
-import contextlib
-import io
 import itertools
-import re
 import unittest
 
 from chordgrip.chords import read
-
-LETTERS = "CDEFGAB"
-ALTERATIONS = {"bb": -2, "b": -1, "": 0, "#": 1, "##": 2}
-KINDS = {
-    "": 0, "m": 1, "dim": 2, "aug": 3, "sus2": 4, "sus4": 5, "5": 6, "6": 7, "m6": 8,
-    "7": 9, "maj7": 10, "m7": 11, "m7b5": 12, "dim7": 13, "add9": 14, "9": 15, "m9": 16, "7sus4": 17,
-}
-NOTES = {
-    letter + sign: [number, alteration]
-    for number, letter in enumerate(LETTERS)
-    for sign, alteration in ALTERATIONS.items()
-}
-CHORD = re.compile(
-    "([A-G](?:##?|bb?)?)(" + "|".join(sorted(KINDS, reverse=True)) + ")(?:/([A-G](?:##?|bb?)?))?", re.DOTALL
-)
-
-
-def bytes_of(text):
-    return list(text.encode("latin-1"))
+from helper import KINDS, NOTES, CallChecks, bytes_of, chords_of
 
 
 def asked(text):
     """What read must answer, by another way than the program's."""
     if len(text) > 400:
         return [-22]
-    answer = [0]
-    for part in text.split(" ") if text else []:
-        found = CHORD.fullmatch(part)
-        if found is None or found[1] == found[3]:
-            return [-71]
-        answer[0] += 1
-        answer += NOTES[found[1]] + [KINDS[found[2]]] + (NOTES[found[3]] if found[3] else [7, 0])
+    chords = chords_of(text)
+    if chords is None:
+        return [-71]
+    answer = [len(chords)]
+    for root, name, bass in chords:
+        answer += NOTES[root] + [KINDS[name]] + (NOTES[bass] if bass else [7, 0])
     return answer
-
-
-class Unchanging(list):
-    """A list that fails at any change, even one that is taken back."""
-
-    def refuse(self, *args, **kwargs):
-        raise AssertionError("what is handed in was changed")
-
-    append = extend = insert = remove = pop = clear = sort = reverse = refuse
-    __setitem__ = __delitem__ = __iadd__ = __imul__ = refuse
 
 
 class ReadTest(unittest.TestCase):
@@ -197,40 +165,12 @@ class Wrong(ReadTest):
                 self.assertEqual(read(bytes_of(text)), asked(text), text)
 
 
-class Call(unittest.TestCase):
-    TEXTS = ["", "C", "Am F/A Bbm7b5", "C/C", "C  G", "C " * 200 + "C", "C " * 249 + "C"]
-
-    def test_what_is_handed_in_is_not_changed(self):
-        for text in self.TEXTS:
-            t = bytes_of(text)
-            read(t)
-            self.assertEqual(t, bytes_of(text))
-            read(Unchanging(t))
-
-    def test_second_call_answers_the_same(self):
-        for text in self.TEXTS:
-            t = bytes_of(text)
-            first = read(t)
-            kept = list(first)
-            first.append(99)
-            first[0] = 99
-            for other in self.TEXTS:
-                read(bytes_of(other))
-            self.assertEqual(read(t), kept)
-
-    def test_whole_numbers_in_a_list(self):
-        for text in self.TEXTS:
-            answer = read(bytes_of(text))
-            self.assertIs(type(answer), list)
-            for number in answer:
-                self.assertIs(type(number), int)
-
-    def test_nothing_is_printed(self):
-        out = io.StringIO()
-        with contextlib.redirect_stdout(out), contextlib.redirect_stderr(out):
-            for text in self.TEXTS:
-                read(bytes_of(text))
-        self.assertEqual(out.getvalue(), "")
+class Call(CallChecks, unittest.TestCase):
+    FUNCTION = read
+    ARGUMENTS = [
+        [bytes_of(text)]
+        for text in ["", "C", "Am F/A Bbm7b5", "C/C", "C  G", "C " * 200 + "C", "C " * 249 + "C"]
+    ]
 
 
 if __name__ == "__main__":
