@@ -1,9 +1,12 @@
 """The program's calls: each takes whole numbers and lists of them, and answers a list of whole numbers."""
 
 MOST_BYTES = 400
+MOST_LETTERS = 6
+MOST_HALF = 11
 
 # The refusals' numbers.
 NOT_AS_TOLD = -22
+NO_NOTE = -34
 NO_SONG = -71
 
 BLANK = 32
@@ -15,6 +18,9 @@ FLAT = 98
 LETTERS = ("C", "D", "E", "F", "G", "A", "B")
 ALTERATIONS = ("bb", "b", "", "#", "##")
 LOWEST_ALTERATION = -2
+HIGHEST_ALTERATION = 2
+# Of all alterations that give a moved note its tone, the one from here on, within twelve, is meant.
+LOWEST_MOVED = -5
 KINDS = (
     "", "m", "dim", "aug", "sus2", "sus4", "5", "6", "m6",
     "7", "maj7", "m7", "m7b5", "dim7", "add9", "9", "m9", "7sus4",
@@ -56,6 +62,21 @@ def tones(t):
         return [NO_SONG]
     had = chord_tones(chord)
     return [len(had)] + had
+
+
+def move(letters, half, t):
+    """How many bytes the song t, moved, has, and these; or a refusal."""
+    if len(t) > MOST_BYTES or letters > MOST_LETTERS or half > MOST_HALF:
+        return [NOT_AS_TOLD]
+    chords = read_song(t)
+    if chords is None:
+        return [NO_SONG]
+    moved = [move_chord(chord, letters, half) for chord in chords]
+    for chord in moved:
+        if not can_be_written(chord):
+            return [NO_NOTE]
+    song = write_song(moved)
+    return [len(song)] + song
 
 
 def read_song(t):
@@ -145,3 +166,46 @@ def bass_tone(chord):
 def note_tone(note):
     """The tone of the note, told as letter and alteration."""
     return (LETTER_TONES[note[0]] + note[1]) % ALL_TONES
+
+
+def move_chord(chord, letters, half):
+    """The chord moved, with alterations that may be beyond those that can be written."""
+    bass = chord[3:] if chord[3] == NO_BASS[0] else move_note(chord[3:], letters, half)
+    return move_note(chord[:2], letters, half) + [chord[2]] + bass
+
+
+def move_note(note, letters, half):
+    """The note's letter and alteration, moved."""
+    letter = (note[0] + letters) % len(LETTERS)
+    alteration = note_tone(note) + half - LETTER_TONES[letter]
+    return [letter, (alteration - LOWEST_MOVED) % ALL_TONES + LOWEST_MOVED]
+
+
+def can_be_written(chord):
+    """Whether there are signs for the alterations of the chord's root and bass."""
+    lower = min(chord[1], chord[4])
+    higher = max(chord[1], chord[4])
+    return lower >= LOWEST_ALTERATION and higher <= HIGHEST_ALTERATION
+
+
+def write_song(chords):
+    """The bytes of the chords with one blank between."""
+    song = []
+    for chord in chords:
+        if len(song) > 0:
+            song.append(BLANK)
+        song.extend([ord(sign) for sign in chord_name(chord)])
+    return song
+
+
+def chord_name(chord):
+    """The chord as it is written."""
+    name = note_name(chord[:2]) + KINDS[chord[2]]
+    if chord[3] == NO_BASS[0]:
+        return name
+    return name + "/" + note_name(chord[3:])
+
+
+def note_name(note):
+    """The note as it is written."""
+    return LETTERS[note[0]] + ALTERATIONS[note[1] - LOWEST_ALTERATION]
