@@ -3,10 +3,13 @@
 MOST_BYTES = 400
 MOST_LETTERS = 6
 MOST_HALF = 11
+MOST_STRINGS = 6
+HIGHEST_PITCH = 100
 
 # The refusals' numbers.
 NOT_AS_TOLD = -22
 NO_NOTE = -34
+NO_GRIP = -61
 NO_SONG = -71
 
 BLANK = 32
@@ -19,12 +22,13 @@ LETTERS = ("C", "D", "E", "F", "G", "A", "B")
 ALTERATIONS = ("bb", "b", "", "#", "##")
 LOWEST_ALTERATION = -2
 HIGHEST_ALTERATION = 2
-# Of all alterations that give a moved note its tone, the one from here on, within twelve, is meant.
-LOWEST_MOVED = -5
 KINDS = (
     "", "m", "dim", "aug", "sus2", "sus4", "5", "6", "m6",
     "7", "maj7", "m7", "m7b5", "dim7", "add9", "9", "m9", "7sus4",
 )
+
+# Of all alterations that give a moved note its tone, the one from here on, within twelve, is meant.
+LOWEST_MOVED = -5
 
 ALL_TONES = 12
 LETTER_TONES = (0, 2, 4, 5, 7, 9, 11)
@@ -37,6 +41,15 @@ KIND_TONES = (
 
 # No note has this letter, so it can't be taken for a bass that is the root.
 NO_BASS = (7, 0)
+
+LAST_POSITION = 9
+FRETS_AT_A_POSITION = 4
+MOST_SILENT = 2
+MOST_FINGERS = 4
+
+# The numbers that tell a string in a grip; at a fret it is the fret and OPEN_STRING.
+SILENT_STRING = 0
+OPEN_STRING = 1
 
 
 def read(t):
@@ -77,6 +90,22 @@ def move(letters, half, t):
             return [NO_NOTE]
     song = write_song(moved)
     return [len(song)] + song
+
+
+def grip(t, tuning):
+    """The lowest position with a good grip of the chord t, and a number for each string of the best; or a refusal."""
+    if len(t) > MOST_BYTES or not strings_as_told(tuning):
+        return [NOT_AS_TOLD]
+    chord = read_chord(t)
+    if chord is None:
+        return [NO_SONG]
+    had = chord_tones(chord)
+    bass = bass_tone(chord)
+    for position in range(LAST_POSITION + 1):
+        best = best_grip(position, tuning, had, bass)
+        if best is not None:
+            return [position] + best
+    return [NO_GRIP]
 
 
 def read_song(t):
@@ -209,3 +238,68 @@ def chord_name(chord):
 def note_name(note):
     """The note as it is written."""
     return LETTERS[note[0]] + ALTERATIONS[note[1] - LOWEST_ALTERATION]
+
+
+def strings_as_told(tuning):
+    """Whether there are as many strings as there may be, each with a pitch that it may have."""
+    return 1 <= len(tuning) <= MOST_STRINGS and max(tuning) <= HIGHEST_PITCH
+
+
+def best_grip(position, tuning, had, bass):
+    """The best good grip at the position, a number for each string, or None if there is none."""
+    good = [numbers for numbers in grips_at(position, tuning, had) if is_good(numbers, tuning, had, bass)]
+    return min(good, key=worth, default=None)
+
+
+def grips_at(position, tuning, had):
+    """All grips at the position that leave no more strings silent than a good one may."""
+    grips = [[]]
+    for pitch in tuning:
+        longer = []
+        for number in string_numbers(position, pitch, had):
+            longer.extend([numbers + [number] for numbers in grips])
+        # Dropped here and not at the end, lest the list grow far longer than it needs to.
+        grips = [numbers for numbers in longer if numbers.count(SILENT_STRING) <= MOST_SILENT]
+    return grips
+
+
+def string_numbers(position, pitch, had):
+    """The numbers that a string of the pitch may have in a grip at the position."""
+    frets = [0] + [position + further for further in range(1, FRETS_AT_A_POSITION + 1)]
+    return [SILENT_STRING] + [fret + OPEN_STRING for fret in frets if (pitch + fret) % ALL_TONES in had]
+
+
+def is_good(numbers, tuning, had, bass):
+    """Whether the grip sounds each tone, the bass's lowest, and takes no more fingers than there are."""
+    pitches = sounding_pitches(numbers, tuning)
+    heard = [pitch % ALL_TONES for pitch in pitches]
+    if set(heard) != set(had):
+        return False
+    return min(pitches) % ALL_TONES == bass and fingers(numbers) <= MOST_FINGERS
+
+
+def sounding_pitches(numbers, tuning):
+    """The pitches of the strings that are not silent."""
+    return [
+        pitch + number - OPEN_STRING
+        for pitch, number in zip(tuning, numbers)
+        if number != SILENT_STRING
+    ]
+
+
+def fingers(numbers):
+    """How many fingers the grip takes."""
+    at_frets = [number for number in numbers if number > OPEN_STRING]
+    if len(at_frets) == 0:
+        return 0
+    lowest = min(at_frets)
+    places = [place for place, number in enumerate(numbers) if number == lowest]
+    # A finger that lies across the strings would stop an open one under it.
+    if OPEN_STRING in numbers[places[0]:places[-1]]:
+        return len(at_frets)
+    return len(at_frets) - len(places) + 1
+
+
+def worth(numbers):
+    """What is less for the better of two grips."""
+    return [numbers.count(SILENT_STRING), fingers(numbers), sum(numbers)] + numbers

@@ -2,6 +2,7 @@
 
 import contextlib
 import io
+import itertools
 import re
 
 LETTERS = "CDEFGAB"
@@ -103,3 +104,50 @@ class CallChecks:
             for arguments in self.ARGUMENTS:
                 self.call(copied(arguments))
         self.assertEqual(out.getvalue(), "")
+
+
+def fingers_of(grip):
+    """How many fingers a grip takes: L stands for the strings at the lowest fret, H for those at others."""
+    lowest = min((number for number in grip if number > 1), default=None)
+    signs = "".join("xo"[number] if number < 2 else "L" if number == lowest else "H" for number in grip)
+    if re.search("L.*o.*L", signs):
+        return signs.count("L") + signs.count("H")
+    return signs.count("H") + ("L" in signs)
+
+
+def good_grips(chord, tuning, position):
+    """All good grips of the chord (root, kind's name, bass) at the position, the better ones first."""
+    root, name, bass = chord
+    had = tones_of(*chord)
+    ways = []
+    for pitch in tuning:
+        sounding = [(1, pitch)] + [(fret + 1, pitch + fret) for fret in range(position + 1, position + 5)]
+        ways.append([(0, None)] + [way for way in sounding if way[1] % 12 in had])
+    good = []
+    for held in itertools.product(*ways):
+        pitches = [pitch for number, pitch in held if number]
+        grip = [number for number, pitch in held]
+        if len(tuning) - len(pitches) > 2 or {pitch % 12 for pitch in pitches} != had:
+            continue
+        if min(pitches) % 12 == tone(bass or root) and fingers_of(grip) <= 4:
+            good.append(grip)
+    # Sorting keeps the order of like ones, so the last thing that counts comes first.
+    good.sort()
+    good.sort(key=sum)
+    good.sort(key=fingers_of)
+    good.sort(key=lambda grip: grip.count(0))
+    return good
+
+
+def asked_grip(text, tuning):
+    """What grip must answer, by another way than the program's."""
+    if len(text) > 400 or not 1 <= len(tuning) <= 6 or any(pitch > 100 for pitch in tuning):
+        return [-22]
+    chords = chords_of(text)
+    if chords is None or len(chords) != 1:
+        return [-71]
+    for position in range(10):
+        good = good_grips(chords[0], tuning, position)
+        if good:
+            return [position] + good[0]
+    return [-61]

@@ -101,6 +101,51 @@ class FormTest(unittest.TestCase):
                 python_method = any(hasattr(kind, node.attr) for kind in (str, int, list, dict, set))
                 self.assertTrue(node.attr in METHODS or not python_method, where)
 
+    def test_each_name_of_a_files_top_once(self):
+        for name, tree in self.trees.items():
+            bound = [node.name for node in tree.body if isinstance(node, (ast.FunctionDef, ast.ClassDef))]
+            for node in tree.body:
+                if isinstance(node, ast.Assign):
+                    self.assertEqual(len(node.targets), 1, name)
+                    bound.append(node.targets[0].id)
+            self.assertEqual(sorted(bound), sorted(set(bound)), name)
+
+    def test_locals_are_not_called_like_the_files_functions(self):
+        for name, tree in self.trees.items():
+            functions = {node.name for node in tree.body if isinstance(node, ast.FunctionDef)}
+            for node in ast.walk(tree):
+                if isinstance(node, ast.Name) and isinstance(node.ctx, ast.Store):
+                    self.assertNotIn(node.id, functions, f"{name}:{node.lineno}")
+                if isinstance(node, ast.arg):
+                    self.assertNotIn(node.arg, functions, f"{name}:{node.lineno}")
+
+    def test_keywords_texts_and_is(self):
+        keywords = {
+            "sorted": {"key", "reverse"}, "min": {"key", "default"}, "max": {"key", "default"}, "sum": {"start"},
+            "enumerate": {"start"}, "zip": {"strict"},
+        }
+        for where, node in self.nodes():
+            if isinstance(node, ast.Call):
+                called = node.func.id if isinstance(node.func, ast.Name) else ""
+                self.assertLessEqual({keyword.arg for keyword in node.keywords}, keywords.get(called, set()), where)
+            if isinstance(node, ast.Constant) and isinstance(node.value, str):
+                self.assertNotIn("%", node.value, where)
+            if isinstance(node, ast.Compare):
+                for operator, side in zip(node.ops, node.comparators):
+                    if isinstance(operator, (ast.Is, ast.IsNot)):
+                        self.assertIn(getattr(side, "value", 0), (None, True, False), where)
+
+    def test_sets_are_compared_on_the_spot(self):
+        beside = set()
+        for where, node in self.nodes():
+            if isinstance(node, ast.Compare) and isinstance(node.ops[0], (ast.Eq, ast.NotEq, ast.In, ast.NotIn)):
+                beside |= {id(node.left)} | {id(side) for side in node.comparators}
+            if isinstance(node, ast.Call) and isinstance(node.func, ast.Name) and node.func.id in ("sorted", "len"):
+                beside |= {id(argument) for argument in node.args}
+        for where, node in self.nodes():
+            if isinstance(node, ast.Call) and isinstance(node.func, ast.Name) and node.func.id in ("set", "frozenset"):
+                self.assertIn(id(node), beside, where)
+
 
 if __name__ == "__main__":
     unittest.main()
